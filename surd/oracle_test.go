@@ -1,0 +1,176 @@
+package surd
+
+import (
+	"math/big"
+	"math/rand"
+	"strconv"
+
+	"surd/api"
+)
+
+// A second way of reckoning, on math/big: a number is a + b√d with fractions a and b.
+
+type node struct {
+	kind        byte // n: a number, r: a root, u: a sign ahead, + - * /: an operation
+	at          int  // of its sign
+	n           int64
+	left, right *node
+}
+
+type pair struct {
+	a, b *big.Rat
+	d    int
+}
+
+// writer writes a random expression, and its tree with it.
+type writer struct {
+	source *rand.Rand
+	text   []byte
+	depth  int
+	roots  []int64
+}
+
+func (w *writer) put(c byte) int {
+	w.text = append(w.text, c)
+	return len(w.text) - 1
+}
+
+func (w *writer) sum() *node {
+	tree := w.product()
+	for w.source.Intn(5) < 2 {
+		kind := "+-"[w.source.Intn(2)]
+		at := w.put(kind)
+		tree = &node{kind: kind, at: at, left: tree, right: w.product()}
+	}
+	return tree
+}
+
+func (w *writer) product() *node {
+	tree := w.factor()
+	for w.source.Intn(5) < 2 {
+		kind := "*/"[w.source.Intn(2)]
+		at := w.put(kind)
+		tree = &node{kind: kind, at: at, left: tree, right: w.factor()}
+	}
+	return tree
+}
+
+func (w *writer) factor() *node {
+	choice := w.source.Intn(10)
+	switch {
+	case choice == 0:
+		w.put('-')
+		return &node{kind: 'u', left: w.factor()}
+	case choice < 4 && w.depth < api.MaxDepth:
+		w.put('(')
+		w.depth++
+		tree := w.sum()
+		w.depth--
+		w.put(')')
+		return tree
+	case choice < 7:
+		n := w.roots[w.source.Intn(len(w.roots))]
+		w.text = append(w.text, 'r')
+		w.text = strconv.AppendInt(w.text, n, 10)
+		return &node{kind: 'r', n: n}
+	}
+	n := w.source.Int63n(4)
+	if w.source.Intn(3) == 0 {
+		n = w.source.Int63n(1000000000000000000)
+	}
+	w.text = strconv.AppendInt(w.text, n, 10)
+	return &node{kind: 'n', n: n}
+}
+
+// randomExpression answers one of at most MaxText bytes. Most often its roots are of one kind, lest hardly any have a value.
+func randomExpression(source *rand.Rand) (string, *node) {
+	families := [][]int64{{2, 8, 18, 720000}, {3, 12, 75, 27}, {999999, 111111}, {5, 20}, {6, 24, 4, 0, 1}, {2, 3, 6, 9, 0}, {999983, 999998}}
+	for {
+		w := &writer{source: source, roots: families[source.Intn(len(families))]}
+		tree := w.sum()
+		if len(w.text) <= api.MaxText {
+			return string(w.text), tree
+		}
+	}
+}
+
+func rootPair(n int64) pair {
+	for s := int64(1000); s >= 1; s-- {
+		if n%(s*s) != 0 {
+			continue
+		}
+		d := n / (s * s)
+		if d <= 1 {
+			return pair{big.NewRat(s*d, 1), new(big.Rat), 1}
+		}
+		return pair{new(big.Rat), big.NewRat(s, 1), int(d)}
+	}
+	return pair{}
+}
+
+// reckon answers the value of a tree, or the first error and its place.
+func reckon(tree *node) (pair, api.Errno, int) {
+	switch tree.kind {
+	case 'n':
+		return pair{big.NewRat(tree.n, 1), new(big.Rat), 1}, api.OK, 0
+	case 'r':
+		return rootPair(tree.n), api.OK, 0
+	}
+	x, err, at := reckon(tree.left)
+	if err != api.OK {
+		return x, err, at
+	}
+	if tree.kind == 'u' {
+		return pair{new(big.Rat).Neg(x.a), new(big.Rat).Neg(x.b), x.d}, api.OK, 0
+	}
+	y, err, at := reckon(tree.right)
+	if err != api.OK {
+		return y, err, at
+	}
+	if tree.kind == '/' && y.a.Sign() == 0 && y.b.Sign() == 0 {
+		return pair{}, api.ErrZero, tree.at
+	}
+	if x.d != 1 && y.d != 1 && x.d != y.d {
+		return pair{}, api.ErrRoots, tree.at
+	}
+	z := combinePairs(x, tree.kind, y, max(x.d, y.d))
+	if z.b.Sign() == 0 {
+		z.d = 1
+	}
+	return z, api.OK, 0
+}
+
+func combinePairs(x pair, kind byte, y pair, d int) pair {
+	switch kind {
+	case '+':
+		return pair{new(big.Rat).Add(x.a, y.a), new(big.Rat).Add(x.b, y.b), d}
+	case '-':
+		return pair{new(big.Rat).Sub(x.a, y.a), new(big.Rat).Sub(x.b, y.b), d}
+	case '*':
+		return multiplyPairs(x, y, d)
+	}
+	turned := pair{y.a, new(big.Rat).Neg(y.b), d}
+	norm := multiplyPairs(y, turned, d).a
+	z := multiplyPairs(x, turned, d)
+	return pair{z.a.Quo(z.a, norm), z.b.Quo(z.b, norm), d}
+}
+
+func multiplyPairs(x pair, y pair, d int) pair {
+	aa := new(big.Rat).Mul(x.a, y.a)
+	bb := new(big.Rat).Mul(x.b, y.b)
+	ab := new(big.Rat).Mul(x.a, y.b)
+	ba := new(big.Rat).Mul(x.b, y.a)
+	bb.Mul(bb, big.NewRat(int64(d), 1))
+	return pair{aa.Add(aa, bb), ab.Add(ab, ba), d}
+}
+
+// form answers the form: R is the least common denominator of a and b.
+func (x pair) form() api.Value {
+	common := new(big.Int).GCD(nil, nil, x.a.Denom(), x.b.Denom())
+	r := new(big.Int).Mul(x.a.Denom(), x.b.Denom())
+	r.Quo(r, common)
+	whole := new(big.Rat).SetInt(r)
+	p := new(big.Rat).Mul(x.a, whole)
+	q := new(big.Rat).Mul(x.b, whole)
+	return api.Value{P: p.Num().String(), Q: q.Num().String(), R: r.String(), D: x.d}
+}

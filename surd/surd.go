@@ -1,0 +1,43 @@
+// Package surd: exact numbers with one square root, and their continued fractions: see DOC.md.
+package surd
+
+import (
+	"surd/api"
+	"surd/expression"
+)
+
+// Check tells whether an expression is one that has a value, and where it is not (P3).
+func Check(text string) (api.Errno, int) {
+	_, err, at := expression.Reckon(text)
+	return err, at
+}
+
+// Value tells an expression's value (P4).
+func Value(text string) (api.Value, api.Errno) {
+	number, err, _ := expression.Reckon(text)
+	if err != api.OK {
+		return api.Value{}, err
+	}
+	return number.Form(), api.OK
+}
+
+// Compare tells which of two values is the greater (P5).
+func Compare(a string, b string) (int, api.Errno) { return 0, api.OK }
+
+// Terms expands a value (P6).
+func Terms(text string, n int) ([]string, bool, api.Errno) { return nil, false, api.OK }
+
+// Near tells the value of the first terms of an expansion (P7).
+func Near(text string, k int) (string, string, api.Errno) { return "", "", api.OK }
+
+// Best tells the nearest fraction (P8).
+func Best(text string, n int) (string, string, api.Errno) { return "", "", api.OK }
+
+// Period tells where an expansion begins to repeat itself, and how long it is until it does (P9).
+func Period(text string) (int, int, api.Errno) { return 0, 0, api.OK }
+
+// Pell solves x² - dy² = 1 (P10).
+func Pell(d int) (string, string, api.Errno) { return "", "", api.OK }
+
+// Line solves ax + by = c (P11).
+func Line(a string, b string, c string) (string, string, api.Errno) { return "", "", api.OK }

@@ -1,0 +1,149 @@
+package whole
+
+import (
+	"math"
+	"math/big"
+	"math/rand"
+	"strings"
+	"testing"
+)
+
+// fromText makes a Number of a whole number's text by way of the calls that are tested.
+func fromText(text string) Number {
+	digits := strings.TrimPrefix(text, "-")
+	n := FromInt(0)
+	for i := range len(digits) {
+		n = Add(Multiply(n, FromInt(10)), FromInt(int64(digits[i]-'0')))
+	}
+	if strings.HasPrefix(text, "-") {
+		n = Negate(n)
+	}
+	return n
+}
+
+// samples has numbers of many lengths; their limbs are often those at which a carry or an estimate can go wrong.
+func samples() []*big.Int {
+	source := rand.New(rand.NewSource(1))
+	edges := []int64{0, 0, 1, 2, base/2 - 1, base / 2, base/2 + 1, base - 2, base - 1, base - 1}
+	list := []*big.Int{}
+	for length := 0; length <= 7; length++ {
+		for range 9 {
+			n := new(big.Int)
+			for range length {
+				limb := source.Int63n(base)
+				if source.Intn(4) > 0 {
+					limb = edges[source.Intn(len(edges))]
+				}
+				n.Mul(n, big.NewInt(base))
+				n.Add(n, big.NewInt(limb))
+			}
+			list = append(list, n, new(big.Int).Neg(n))
+		}
+	}
+	return list
+}
+
+// same tells whether n is the number want, in the one shape that a number has.
+func same(n Number, want *big.Int) bool {
+	if len(n.limbs) > 0 && n.limbs[len(n.limbs)-1] == 0 {
+		return false
+	}
+	for _, limb := range n.limbs {
+		if limb < 0 || limb >= base {
+			return false
+		}
+	}
+	return n.Text() == want.String() && n.Sign() == want.Sign()
+}
+
+func TestFromInt(t *testing.T) {
+	for _, n := range []int64{0, 1, -1, 9, 10, base - 1, base, base + 1, -base, base * base, base*base - 1, math.MaxInt64, math.MinInt64, math.MinInt64 + 1} {
+		if got := FromInt(n); !same(got, big.NewInt(n)) {
+			t.Errorf("FromInt(%d) = %s", n, got.Text())
+		}
+	}
+}
+
+func TestZeroNumber(t *testing.T) {
+	if !same(Number{}, new(big.Int)) || !same(Negate(Number{}), new(big.Int)) {
+		t.Error("the zero Number is not 0")
+	}
+}
+
+func TestTextAndNegate(t *testing.T) {
+	for _, a := range samples() {
+		n := fromText(a.String())
+		if !same(n, a) {
+			t.Errorf("%s comes out as %s", a, n.Text())
+		}
+		if got := Negate(n); !same(got, new(big.Int).Neg(a)) {
+			t.Errorf("Negate(%s) = %s", a, got.Text())
+		}
+	}
+}
+
+func TestPairs(t *testing.T) {
+	list := samples()
+	numbers := []Number{}
+	for _, a := range list {
+		numbers = append(numbers, fromText(a.String()))
+	}
+	for i, a := range list {
+		for j, b := range list {
+			if got, want := Add(numbers[i], numbers[j]), new(big.Int).Add(a, b); !same(got, want) {
+				t.Fatalf("%s + %s = %s, want %s", a, b, got.Text(), want)
+			}
+			if got, want := Subtract(numbers[i], numbers[j]), new(big.Int).Sub(a, b); !same(got, want) {
+				t.Fatalf("%s - %s = %s, want %s", a, b, got.Text(), want)
+			}
+			if got, want := Multiply(numbers[i], numbers[j]), new(big.Int).Mul(a, b); !same(got, want) {
+				t.Fatalf("%s * %s = %s, want %s", a, b, got.Text(), want)
+			}
+			if got, want := Divisor(numbers[i], numbers[j]), new(big.Int).GCD(nil, nil, new(big.Int).Abs(a), new(big.Int).Abs(b)); !same(got, want) {
+				t.Fatalf("Divisor(%s, %s) = %s, want %s", a, b, got.Text(), want)
+			}
+		}
+	}
+	for i, a := range list {
+		if !same(numbers[i], a) {
+			t.Fatalf("%s was changed by a call", a)
+		}
+	}
+}
+
+func checkDivide(t *testing.T, a *big.Int, b *big.Int) {
+	t.Helper()
+	quotient, remainder := Divide(fromText(a.String()), fromText(b.String()))
+	wantQuotient, wantRemainder := new(big.Int), new(big.Int).Set(a)
+	if b.Sign() != 0 {
+		wantQuotient.QuoRem(a, b, wantRemainder)
+	}
+	if !same(quotient, wantQuotient) || !same(remainder, wantRemainder) {
+		t.Fatalf("%s / %s = %s rest %s, want %s rest %s", a, b, quotient.Text(), remainder.Text(), wantQuotient, wantRemainder)
+	}
+}
+
+func TestDivide(t *testing.T) {
+	list := samples()
+	for _, a := range list {
+		for _, b := range list {
+			checkDivide(t, a, b)
+		}
+	}
+}
+
+// Dividends just below and at a multiple of the divisor make the estimates of the quotient's limbs too great.
+func TestDivideNearMultiples(t *testing.T) {
+	list := samples()
+	for i, b := range list {
+		for _, q := range list[i%5:] {
+			if len(q.String()) > 30 {
+				break
+			}
+			a := new(big.Int).Mul(b, q)
+			checkDivide(t, a, b)
+			checkDivide(t, new(big.Int).Sub(a, big.NewInt(1)), b)
+			checkDivide(t, new(big.Int).Add(a, big.NewInt(1)), b)
+		}
+	}
+}
