@@ -48,6 +48,11 @@ func (a Number) Form() api.Value {
 	return api.Value{P: p, Q: q, R: r, D: a.d}
 }
 
+// Parts answers p, q, r and d of the number's form (p + q√d)/r.
+func (a Number) Parts() (whole.Number, whole.Number, whole.Number, int) {
+	return a.p, a.q, a.r, a.d
+}
+
 // Negate answers -a.
 func Negate(a Number) Number {
 	p := whole.Negate(a.p)

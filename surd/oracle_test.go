@@ -174,3 +174,69 @@ func (x pair) form() api.Value {
 	q := new(big.Rat).Mul(x.b, whole)
 	return api.Value{P: p.Num().String(), Q: q.Num().String(), R: r.String(), D: x.d}
 }
+
+// bits is so many that two different values of texts differ within them by far.
+const bits = 8000
+
+// near answers the number to bits bits.
+func (x pair) near() *big.Float {
+	root := new(big.Float).SetPrec(bits).SetInt64(int64(x.d))
+	root.Sqrt(root)
+	a := new(big.Float).SetPrec(bits).SetRat(x.a)
+	b := new(big.Float).SetPrec(bits).SetRat(x.b)
+	b.Mul(b, root)
+	return a.Add(a, b)
+}
+
+// A place is where a number lies among others.
+type place struct {
+	form api.Value
+	near *big.Float
+}
+
+func (x pair) place() place { return place{x.form(), x.near()} }
+
+// comparePlaces goes by the forms, if they are the same, and else by the first bits.
+func comparePlaces(x place, y place) int {
+	if x.form == y.form {
+		return 0
+	}
+	return x.near.Cmp(y.near)
+}
+
+func (x pair) floor() *big.Int {
+	if x.d == 1 {
+		return new(big.Int).Div(x.a.Num(), x.a.Denom())
+	}
+	near := x.near()
+	t, _ := near.Int(nil)
+	// Int rounds toward 0, and an irrational number is never whole.
+	if near.Sign() < 0 {
+		t.Sub(t, big.NewInt(1))
+	}
+	return t
+}
+
+// expand answers the first n terms, and whether these are all, by the words of the document.
+func expand(x pair, n int) ([]string, bool) {
+	one := pair{big.NewRat(1, 1), new(big.Rat), 1}
+	terms := []string{}
+	for len(terms) < n {
+		t := x.floor()
+		terms = append(terms, t.String())
+		rest := pair{new(big.Rat).Sub(x.a, new(big.Rat).SetInt(t)), x.b, x.d}
+		if rest.a.Sign() == 0 && rest.b.Sign() == 0 {
+			return terms, true
+		}
+		x = combinePairs(one, '/', rest, x.d)
+	}
+	return terms, false
+}
+
+// valueOf reckons the value of an expression that has one, from its form.
+func valueOf(value api.Value) pair {
+	p, _ := new(big.Rat).SetString(value.P)
+	q, _ := new(big.Rat).SetString(value.Q)
+	r, _ := new(big.Rat).SetString(value.R)
+	return pair{p.Quo(p, r), q.Quo(q, r), value.D}
+}

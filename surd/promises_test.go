@@ -1,8 +1,10 @@
 package surd
 
 import (
+	"math"
 	"math/big"
 	"math/rand"
+	"slices"
 	"strings"
 	"testing"
 
@@ -26,6 +28,40 @@ func callAll(t *testing.T, text string) {
 	}
 	if (valueErr != api.OK) != (value == api.Value{}) {
 		t.Errorf("P1: Value(%.120q) = %+v, %d", text, value, valueErr)
+	}
+	callCompare(t, text, err)
+	callTerms(t, text, err)
+}
+
+// callCompare wants the error that Check tells of the text.
+func callCompare(t *testing.T, text string, err api.Errno) {
+	t.Helper()
+	for _, pair := range [][2]string{{text, "r2"}, {"r2", text}, {text, text}} {
+		order, compareErr := Compare(pair[0], pair[1])
+		if compareErr != err {
+			t.Errorf("P5: Compare(%.120q, %.120q) tells %d, Check %d", pair[0], pair[1], compareErr, err)
+		}
+		if order < -1 || order > 1 || (err != api.OK && order != 0) {
+			t.Errorf("P1: Compare(%.120q, %.120q) = %d, %d", pair[0], pair[1], order, compareErr)
+		}
+	}
+}
+
+// callTerms wants the error that Check tells of the text.
+func callTerms(t *testing.T, text string, err api.Errno) {
+	t.Helper()
+	for _, n := range []int{math.MinInt, -1, 0, 1, 5, api.MaxTerms, api.MaxTerms + 1, math.MaxInt} {
+		want := err
+		if err == api.OK && (n < 0 || n > api.MaxTerms) {
+			want = api.ErrArg
+		}
+		terms, all, termsErr := Terms(text, n)
+		if termsErr != want {
+			t.Errorf("P6: Terms(%.120q, %d) tells %d, want %d", text, n, termsErr, want)
+		}
+		if want != api.OK && (len(terms) > 0 || all) {
+			t.Errorf("P1: Terms(%.120q, %d) = %v, %v, %d", text, n, terms, all, termsErr)
+		}
 	}
 }
 
@@ -74,6 +110,15 @@ func TestP1LongTextsByTheirLength(t *testing.T) {
 			if value, err := Value(long); err != api.ErrLong || value != (api.Value{}) {
 				t.Fatalf("P1: Value of a long text is %+v, %d", value, err)
 			}
+			if order, err := Compare(long, "x"); err != api.ErrLong || order != 0 {
+				t.Fatalf("P1: Compare of a long text is %d, %d", order, err)
+			}
+			if order, err := Compare("1", long); err != api.ErrLong || order != 0 {
+				t.Fatalf("P1: Compare with a long text is %d, %d", order, err)
+			}
+			if terms, all, err := Terms(long, -1); err != api.ErrLong || len(terms) > 0 || all {
+				t.Fatalf("P1: Terms of a long text is %v, %v, %d", terms, all, err)
+			}
 		}
 	}
 }
@@ -106,11 +151,16 @@ func TestP2ArgumentsAlone(t *testing.T) {
 		err   api.Errno
 		at    int
 		value api.Value
+		order int
+		terms string
+		all   bool
 	}
 	ask := func(text string) answer {
 		err, at := Check(text)
 		value, _ := Value(text)
-		return answer{err, at, value}
+		order, _ := Compare(text, "r5-2")
+		terms, all, _ := Terms(text, 20)
+		return answer{err, at, value, order, strings.Join(terms, " "), all}
 	}
 	source := rand.New(rand.NewSource(4))
 	texts := []string{"", "1/0", "r2+r3", "1+", repeat("1", 101), "r8/6"}
@@ -127,6 +177,36 @@ func TestP2ArgumentsAlone(t *testing.T) {
 		again := string([]byte(texts[i]))
 		if got := ask(again); got != first[i] {
 			t.Errorf("P2: %q: %+v, and later %+v", texts[i], first[i], got)
+		}
+	}
+}
+
+// spoil writes into a list and into its spare room.
+func spoil(list []string) {
+	room := list[:cap(list)]
+	for i := range room {
+		room[i] = "spoilt"
+	}
+}
+
+func TestP2FreshLists(t *testing.T) {
+	for _, c := range []struct {
+		text string
+		n    int
+	}{
+		{"r2", 0}, {"r2", 1}, {"r2", 5}, {"r2", 100}, {"r19", 33}, {"43/19", 2}, {"43/19", 100}, {"5", 1}, {"-1/1000", 9},
+	} {
+		before, _, _ := Terms(c.text, c.n)
+		want := slices.Clone(before)
+		other, _, _ := Terms(c.text, c.n)
+		spoil(before)
+		if !slices.Equal(other, want) {
+			t.Errorf("P2: Terms(%q, %d): the second list is %v once the first is written into, and was %v", c.text, c.n, other, want)
+		}
+		other = append(other, "more", "and more")
+		spoil(other)
+		if after, _, _ := Terms(c.text, c.n); !slices.Equal(after, want) {
+			t.Errorf("P2: Terms(%q, %d) is %v once lists are written into, and was %v", c.text, c.n, after, want)
 		}
 	}
 }

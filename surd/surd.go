@@ -3,6 +3,8 @@ package surd
 
 import (
 	"surd/api"
+	"surd/exact"
+	"surd/expansion"
 	"surd/expression"
 )
 
@@ -22,10 +24,39 @@ func Value(text string) (api.Value, api.Errno) {
 }
 
 // Compare tells which of two values is the greater (P5).
-func Compare(a string, b string) (int, api.Errno) { return 0, api.OK }
+func Compare(a string, b string) (int, api.Errno) {
+	first, err, _ := expression.Reckon(a)
+	if err != api.OK {
+		return 0, err
+	}
+	second, err, _ := expression.Reckon(b)
+	if err != api.OK {
+		return 0, err
+	}
+	order := exact.Compare(first, second)
+	return order, api.OK
+}
 
 // Terms expands a value (P6).
-func Terms(text string, n int) ([]string, bool, api.Errno) { return nil, false, api.OK }
+func Terms(text string, n int) ([]string, bool, api.Errno) {
+	number, err, _ := expression.Reckon(text)
+	if err != api.OK {
+		return nil, false, err
+	}
+	if n < 0 || n > api.MaxTerms {
+		return nil, false, api.ErrArg
+	}
+	terms := []string{}
+	rest := expansion.Of(number)
+	for len(terms) < n && !rest.Ended() {
+		term, behind := rest.Next()
+		rest = behind
+		word := term.Text()
+		terms = append(terms, word)
+	}
+	all := rest.Ended()
+	return terms, all, api.OK
+}
 
 // Near tells the value of the first terms of an expansion (P7).
 func Near(text string, k int) (string, string, api.Errno) { return "", "", api.OK }

@@ -151,3 +151,20 @@ func estimate(rest []int64, divisor []int64) int64 {
 	}
 	return digit
 }
+
+// rootLimbs goes down to the root from above. A step from above the root never leads below its whole part, so that the first step that leads no further down starts there.
+func rootLimbs(a []int64) []int64 {
+	root := []int64{1}
+	for i := 0; i < len(a); i += 2 {
+		root = putBelow(root, 0)
+	}
+	for {
+		quotient, _ := divideLimbs(a, root)
+		sum := addLimbs(root, quotient)
+		next, _ := divideLimbs(sum, []int64{2})
+		if compareLimbs(next, root) >= 0 {
+			return root
+		}
+		root = next
+	}
+}

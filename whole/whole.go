@@ -58,6 +58,20 @@ func (a Number) Sign() int {
 	return 1
 }
 
+// Compare tells -1, 0 or 1: a is less than b, the same, greater.
+func Compare(a Number, b Number) int {
+	if a.negative != b.negative {
+		if a.negative {
+			return -1
+		}
+		return 1
+	}
+	if a.negative {
+		return compareLimbs(b.limbs, a.limbs)
+	}
+	return compareLimbs(a.limbs, b.limbs)
+}
+
 // Negate answers -a.
 func Negate(a Number) Number {
 	limbs := copyLimbs(a.limbs)
@@ -100,6 +114,26 @@ func Divide(a Number, b Number) (Number, Number) {
 	quotient := Number{negative: a.negative != b.negative && len(above) > 0, limbs: above}
 	remainder := Number{negative: a.negative && len(below) > 0, limbs: below}
 	return quotient, remainder
+}
+
+// Floor answers the greatest whole number that is not above a divided by b. With b 0 it is 0.
+func Floor(a Number, b Number) Number {
+	quotient, remainder := Divide(a, b)
+	// Divide rounds toward 0, so that a quotient below 0 comes out too great.
+	if len(b.limbs) > 0 && len(remainder.limbs) > 0 && remainder.negative != b.negative {
+		one := FromInt(1)
+		quotient = Subtract(quotient, one)
+	}
+	return quotient
+}
+
+// Root answers the greatest whole number whose square is not above a; of an a below 0 there is none, and it is 0.
+func Root(a Number) Number {
+	if a.negative {
+		return Number{}
+	}
+	limbs := rootLimbs(a.limbs)
+	return Number{limbs: limbs}
 }
 
 // Divisor answers the greatest common divisor of a and b; it is 0 if both are.

@@ -99,6 +99,9 @@ func TestPairs(t *testing.T) {
 			if got, want := Multiply(numbers[i], numbers[j]), new(big.Int).Mul(a, b); !same(got, want) {
 				t.Fatalf("%s * %s = %s, want %s", a, b, got.Text(), want)
 			}
+			if got, want := Compare(numbers[i], numbers[j]), a.Cmp(b); got != want {
+				t.Fatalf("Compare(%s, %s) = %d, want %d", a, b, got, want)
+			}
 			if got, want := Divisor(numbers[i], numbers[j]), new(big.Int).GCD(nil, nil, new(big.Int).Abs(a), new(big.Int).Abs(b)); !same(got, want) {
 				t.Fatalf("Divisor(%s, %s) = %s, want %s", a, b, got.Text(), want)
 			}
@@ -113,13 +116,56 @@ func TestPairs(t *testing.T) {
 
 func checkDivide(t *testing.T, a *big.Int, b *big.Int) {
 	t.Helper()
-	quotient, remainder := Divide(fromText(a.String()), fromText(b.String()))
+	x, y := fromText(a.String()), fromText(b.String())
+	quotient, remainder := Divide(x, y)
 	wantQuotient, wantRemainder := new(big.Int), new(big.Int).Set(a)
 	if b.Sign() != 0 {
 		wantQuotient.QuoRem(a, b, wantRemainder)
 	}
 	if !same(quotient, wantQuotient) || !same(remainder, wantRemainder) {
 		t.Fatalf("%s / %s = %s rest %s, want %s rest %s", a, b, quotient.Text(), remainder.Text(), wantQuotient, wantRemainder)
+	}
+	if got, want := Floor(x, y), floor(a, b); !same(got, want) {
+		t.Fatalf("Floor(%s, %s) = %s, want %s", a, b, got.Text(), want)
+	}
+}
+
+// floor goes by a divisor above 0, of which math/big knows the quotient that is rounded downward.
+func floor(a *big.Int, b *big.Int) *big.Int {
+	switch b.Sign() {
+	case 0:
+		return new(big.Int)
+	case -1:
+		return floor(new(big.Int).Neg(a), new(big.Int).Neg(b))
+	}
+	return new(big.Int).Div(a, b)
+}
+
+func checkRoot(t *testing.T, a *big.Int) {
+	t.Helper()
+	want := new(big.Int)
+	if a.Sign() > 0 {
+		want.Sqrt(a)
+	}
+	n := fromText(a.String())
+	if got := Root(n); !same(got, want) || !same(n, a) {
+		t.Fatalf("Root(%s) = %s, want %s", a, got.Text(), want)
+	}
+}
+
+// A root goes wrong most easily next to a square.
+func TestRoot(t *testing.T) {
+	for n := int64(-2); n < 3000; n++ {
+		checkRoot(t, big.NewInt(n))
+	}
+	for _, a := range samples() {
+		checkRoot(t, a)
+		square := new(big.Int).Mul(a, a)
+		for _, near := range []int64{-1, 0, 1} {
+			checkRoot(t, new(big.Int).Add(square, big.NewInt(near)))
+		}
+		square.Add(square, new(big.Int).Add(a, a))
+		checkRoot(t, square)
 	}
 }
 
