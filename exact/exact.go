@@ -40,6 +40,12 @@ func Root(n int) Number {
 	return Number{q: q, r: one, d: inside}
 }
 
+// Quotient answers p/q; q is not 0.
+func Quotient(p whole.Number, q whole.Number) Number {
+	none := whole.FromInt(0)
+	return reduce(p, none, q, 1)
+}
+
 // Form tells the number's form.
 func (a Number) Form() api.Value {
 	p := a.p.Text()
@@ -51,6 +57,11 @@ func (a Number) Form() api.Value {
 // Parts answers p, q, r and d of the number's form (p + q√d)/r.
 func (a Number) Parts() (whole.Number, whole.Number, whole.Number, int) {
 	return a.p, a.q, a.r, a.d
+}
+
+// Rational tells whether the number is rational.
+func (a Number) Rational() bool {
+	return a.d == 1
 }
 
 // Negate answers -a.

@@ -5,6 +5,7 @@ import (
 	"testing"
 
 	"surd/api"
+	"surd/whole"
 )
 
 // number answers (p + q√d)/r, reckoned from its parts.
@@ -43,6 +44,34 @@ func TestForm(t *testing.T) {
 	} {
 		if got := number(t, c.p, c.q, c.r, c.d).Form(); got != c.want {
 			t.Errorf("(%d + %d√%d)/%d is %+v, want %+v", c.p, c.q, c.d, c.r, got, c.want)
+		}
+	}
+}
+
+func TestQuotient(t *testing.T) {
+	for p := int64(-30); p <= 30; p++ {
+		for q := int64(-30); q <= 30; q++ {
+			got := Quotient(whole.FromInt(p), whole.FromInt(q))
+			if q == 0 {
+				continue
+			}
+			if want := number(t, p, 0, q, 1); got.Form() != want.Form() {
+				t.Errorf("%d/%d is %+v, want %+v", p, q, got.Form(), want.Form())
+			}
+		}
+	}
+}
+
+func TestRational(t *testing.T) {
+	for _, c := range []struct {
+		p, q, r int64
+		d       int
+		want    bool
+	}{
+		{0, 0, 1, 2, true}, {5, 0, 3, 7, true}, {1, 1, 2, 9, true}, {1, 1, 2, 0, true}, {0, 1, 1, 2, false}, {5, -1, 3, 7, false}, {1, 1, 2, 999999, false},
+	} {
+		if got := number(t, c.p, c.q, c.r, c.d).Rational(); got != c.want {
+			t.Errorf("(%d + %d√%d)/%d is rational: %v", c.p, c.q, c.d, c.r, got)
 		}
 	}
 }

@@ -208,7 +208,10 @@ func (x pair) floor() *big.Int {
 	if x.d == 1 {
 		return new(big.Int).Div(x.a.Num(), x.a.Denom())
 	}
-	near := x.near()
+	return floorOf(x.near())
+}
+
+func floorOf(near *big.Float) *big.Int {
 	t, _ := near.Int(nil)
 	// Int rounds toward 0, and an irrational number is never whole.
 	if near.Sign() < 0 {
@@ -239,4 +242,77 @@ func valueOf(value api.Value) pair {
 	q, _ := new(big.Rat).SetString(value.Q)
 	r, _ := new(big.Rat).SetString(value.R)
 	return pair{p.Quo(p, r), q.Quo(q, r), value.D}
+}
+
+// valueOfTerms answers the value of a list of terms, from its last one on.
+func valueOfTerms(terms []string) *big.Rat {
+	value := new(big.Rat)
+	for i := len(terms) - 1; i >= 0; i-- {
+		term, _ := new(big.Rat).SetString(terms[i])
+		if i < len(terms)-1 {
+			value.Inv(value)
+		}
+		value.Add(value, term)
+	}
+	return value
+}
+
+// bestOf tries the two fractions next to x of each denominator.
+func bestOf(x pair, n int) (string, string) {
+	if x.d == 1 {
+		return bestOfRational(x.a, n)
+	}
+	near := x.near()
+	var least *big.Float
+	p, q := "", ""
+	for below := int64(1); below <= int64(n); below++ {
+		scaled := new(big.Float).SetPrec(bits).SetInt64(below)
+		top := floorOf(scaled.Mul(scaled, near))
+		for range 2 {
+			fraction := new(big.Rat).SetFrac(top, big.NewInt(below))
+			away := new(big.Float).SetPrec(bits).SetRat(fraction)
+			away.Sub(away, near).Abs(away)
+			if least == nil || away.Cmp(least) < 0 {
+				least, p, q = away, fraction.Num().String(), fraction.Denom().String()
+			}
+			top.Add(top, big.NewInt(1))
+		}
+	}
+	return p, q
+}
+
+// bestOfRational goes upward with the denominator and the numerator, so that the first of several is the one that is asked for.
+func bestOfRational(x *big.Rat, n int) (string, string) {
+	var least *big.Rat
+	p, q := "", ""
+	for below := int64(1); below <= int64(n); below++ {
+		scaled := new(big.Rat).Mul(x, big.NewRat(below, 1))
+		top := new(big.Int).Div(scaled.Num(), scaled.Denom())
+		for range 2 {
+			fraction := new(big.Rat).SetFrac(top, big.NewInt(below))
+			away := new(big.Rat).Sub(fraction, x)
+			away.Abs(away)
+			if least == nil || away.Cmp(least) < 0 {
+				least, p, q = away, fraction.Num().String(), fraction.Denom().String()
+			}
+			top.Add(top, big.NewInt(1))
+		}
+	}
+	return p, q
+}
+
+// periodOf goes on with 1/(x - t) in the place of x until one comes that was there already; false, if it has not come within most steps.
+func periodOf(x pair, most int) (int, int, bool) {
+	one := pair{big.NewRat(1, 1), new(big.Rat), 1}
+	seen := map[api.Value]int{}
+	for i := 0; i <= most; i++ {
+		form := x.form()
+		if first, found := seen[form]; found {
+			return first, i - first, true
+		}
+		seen[form] = i
+		whole := new(big.Rat).SetInt(x.floor())
+		x = combinePairs(one, '/', pair{new(big.Rat).Sub(x.a, whole), x.b, x.d}, x.d)
+	}
+	return 0, 0, false
 }

@@ -31,6 +31,9 @@ func callAll(t *testing.T, text string) {
 	}
 	callCompare(t, text, err)
 	callTerms(t, text, err)
+	callNear(t, text, err)
+	callBest(t, text, err)
+	callPeriod(t, text, err, value.D)
 }
 
 // callCompare wants the error that Check tells of the text.
@@ -65,6 +68,70 @@ func callTerms(t *testing.T, text string, err api.Errno) {
 	}
 }
 
+// isWholeText tells whether a text is a whole number's text.
+func isWholeText(text string) bool {
+	digits := strings.TrimPrefix(text, "-")
+	return text == "0" || (digits != "" && digits[0] != '0' && strings.Trim(digits, "0123456789") == "")
+}
+
+// checkFraction looks at what Near or Best answered: with an error nothing, else p and q above 0 as whole numbers' texts.
+func checkFraction(t *testing.T, call string, text string, n int, p string, q string, err api.Errno, want api.Errno) {
+	t.Helper()
+	if err != want {
+		t.Errorf("%s(%.120q, %d) tells %d, want %d", call, text, n, err, want)
+	}
+	if want != api.OK && (p != "" || q != "") {
+		t.Errorf("P1: %s(%.120q, %d) = %q, %q, %d", call, text, n, p, q, err)
+	}
+	if want == api.OK && (!isWholeText(p) || !isWholeText(q) || q == "0" || q[0] == '-') {
+		t.Errorf("%s(%.120q, %d) = %q, %q", call, text, n, p, q)
+	}
+}
+
+// callNear wants the error that Check tells of the text.
+func callNear(t *testing.T, text string, err api.Errno) {
+	t.Helper()
+	for _, k := range []int{math.MinInt, -1, 0, api.MaxTerms - 1, api.MaxTerms, math.MaxInt} {
+		want := err
+		if err == api.OK && (k < 0 || k > api.MaxTerms-1) {
+			want = api.ErrArg
+		}
+		p, q, nearErr := Near(text, k)
+		checkFraction(t, "P7: Near", text, k, p, q, nearErr, want)
+	}
+}
+
+// callBest wants the error that Check tells of the text.
+func callBest(t *testing.T, text string, err api.Errno) {
+	t.Helper()
+	for _, n := range []int{math.MinInt, -1, 0, 1, api.MaxBottom, api.MaxBottom + 1, math.MaxInt} {
+		want := err
+		if err == api.OK && (n < 1 || n > api.MaxBottom) {
+			want = api.ErrArg
+		}
+		p, q, bestErr := Best(text, n)
+		checkFraction(t, "P8: Best", text, n, p, q, bestErr, want)
+	}
+}
+
+// callPeriod wants the error that Check tells of the text, and the root of its value.
+func callPeriod(t *testing.T, text string, err api.Errno, d int) {
+	t.Helper()
+	b, l, periodErr := Period(text)
+	if err == api.OK && d == 1 {
+		err = api.ErrRational
+	}
+	if periodErr != err && (err != api.OK || periodErr != api.ErrFar) {
+		t.Errorf("P9: Period(%.120q) tells %d, want %d", text, periodErr, err)
+	}
+	if periodErr != api.OK && (b != 0 || l != 0) {
+		t.Errorf("P1: Period(%.120q) = %d, %d, %d", text, b, l, periodErr)
+	}
+	if periodErr == api.OK && (b < 0 || l < 1 || b+l > api.MaxPeriod) {
+		t.Errorf("P9: Period(%.120q) = %d, %d", text, b, l)
+	}
+}
+
 func TestP1AllShortTexts(t *testing.T) {
 	for a := range 256 {
 		callAll(t, string([]byte{byte(a)}))
@@ -90,7 +157,7 @@ func TestP1RandomTexts(t *testing.T) {
 func TestP1SpoiltTexts(t *testing.T) {
 	source := rand.New(rand.NewSource(3))
 	const alphabet = "0129r-+*/()x \x00\xff"
-	for range 20000 {
+	for range 6000 {
 		text, _ := randomExpression(source)
 		i := source.Intn(len(text))
 		c := alphabet[source.Intn(len(alphabet))]
@@ -118,6 +185,15 @@ func TestP1LongTextsByTheirLength(t *testing.T) {
 			}
 			if terms, all, err := Terms(long, -1); err != api.ErrLong || len(terms) > 0 || all {
 				t.Fatalf("P1: Terms of a long text is %v, %v, %d", terms, all, err)
+			}
+			if p, q, err := Near(long, -1); err != api.ErrLong || p != "" || q != "" {
+				t.Fatalf("P1: Near of a long text is %q, %q, %d", p, q, err)
+			}
+			if p, q, err := Best(long, 0); err != api.ErrLong || p != "" || q != "" {
+				t.Fatalf("P1: Best of a long text is %q, %q, %d", p, q, err)
+			}
+			if b, l, err := Period(long); err != api.ErrLong || b != 0 || l != 0 {
+				t.Fatalf("P1: Period of a long text is %d, %d, %d", b, l, err)
 			}
 		}
 	}
@@ -154,13 +230,20 @@ func TestP2ArgumentsAlone(t *testing.T) {
 		order int
 		terms string
 		all   bool
+		near  [2]string
+		best  [2]string
+		first int
+		long  int
 	}
 	ask := func(text string) answer {
 		err, at := Check(text)
 		value, _ := Value(text)
 		order, _ := Compare(text, "r5-2")
 		terms, all, _ := Terms(text, 20)
-		return answer{err, at, value, order, strings.Join(terms, " "), all}
+		near, below, _ := Near(text, 20)
+		best, bottom, _ := Best(text, 700)
+		first, long, _ := Period(text)
+		return answer{err, at, value, order, strings.Join(terms, " "), all, [2]string{near, below}, [2]string{best, bottom}, first, long}
 	}
 	source := rand.New(rand.NewSource(4))
 	texts := []string{"", "1/0", "r2+r3", "1+", repeat("1", 101), "r8/6"}

@@ -59,13 +59,48 @@ func Terms(text string, n int) ([]string, bool, api.Errno) {
 }
 
 // Near tells the value of the first terms of an expansion (P7).
-func Near(text string, k int) (string, string, api.Errno) { return "", "", api.OK }
+func Near(text string, k int) (string, string, api.Errno) {
+	number, err, _ := expression.Reckon(text)
+	if err != api.OK {
+		return "", "", err
+	}
+	if k < 0 || k >= api.MaxTerms {
+		return "", "", api.ErrArg
+	}
+	value := expansion.Near(number, k+1)
+	p, q := value.Texts()
+	return p, q, api.OK
+}
 
 // Best tells the nearest fraction (P8).
-func Best(text string, n int) (string, string, api.Errno) { return "", "", api.OK }
+func Best(text string, n int) (string, string, api.Errno) {
+	number, err, _ := expression.Reckon(text)
+	if err != api.OK {
+		return "", "", err
+	}
+	if n < 1 || n > api.MaxBottom {
+		return "", "", api.ErrArg
+	}
+	nearest := expansion.Best(number, n)
+	p, q := nearest.Texts()
+	return p, q, api.OK
+}
 
 // Period tells where an expansion begins to repeat itself, and how long it is until it does (P9).
-func Period(text string) (int, int, api.Errno) { return 0, 0, api.OK }
+func Period(text string) (int, int, api.Errno) {
+	number, err, _ := expression.Reckon(text)
+	if err != api.OK {
+		return 0, 0, err
+	}
+	if number.Rational() {
+		return 0, 0, api.ErrRational
+	}
+	ahead, length, found := expansion.Period(number, api.MaxPeriod)
+	if !found {
+		return 0, 0, api.ErrFar
+	}
+	return ahead, length, api.OK
+}
 
 // Pell solves x² - dy² = 1 (P10).
 func Pell(d int) (string, string, api.Errno) { return "", "", api.OK }

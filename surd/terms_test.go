@@ -119,16 +119,20 @@ func TestP6AtMaxTerms(t *testing.T) {
 	t.Errorf("no number has as many terms: %v", seen)
 }
 
-// The greatest numbers that a text can bring about.
-func TestP6GreatNumbers(t *testing.T) {
+// greatTexts have the greatest numbers that a text can bring about.
+func greatTexts() []string {
 	nines := repeat("9", 18)
-	for _, text := range []string{
+	return []string{
 		"1/(1+r2*" + nines + ")/(3+r2*" + nines + ")/(7-r2*" + nines + ")",
 		"1/(1+r999983*" + nines + ")-1/(7-r999983*" + nines + ")-r999983/" + nines,
 		"r999983/" + nines + "+1/999999999999999989+1/999999999999999877+1/999999999999999967",
 		"-r2*" + repeat(nines+"*", 4) + nines, "r2/(" + repeat(nines+"*", 4) + "99999)", "-r2/(" + repeat(nines+"*", 4) + "99999)", "1-1/(" + repeat(nines+"*", 4) + "99999)",
 		repeat("1/(9+", 8) + "r999983" + repeat(")", 8), repeat("1/(9-", 8) + "r999983" + repeat(")", 8),
-	} {
+	}
+}
+
+func TestP6GreatNumbers(t *testing.T) {
+	for _, text := range greatTexts() {
 		value, err := Value(text)
 		if err != api.OK {
 			t.Fatalf("P6: Value(%q) tells %d", text, err)
