@@ -157,7 +157,7 @@ func TestP1RandomTexts(t *testing.T) {
 func TestP1SpoiltTexts(t *testing.T) {
 	source := rand.New(rand.NewSource(3))
 	const alphabet = "0129r-+*/()x \x00\xff"
-	for range 6000 {
+	for range 20000 {
 		text, _ := randomExpression(source)
 		i := source.Intn(len(text))
 		c := alphabet[source.Intn(len(alphabet))]
