@@ -34,6 +34,9 @@ func callAll(t *testing.T, text string) {
 	callNear(t, text, err)
 	callBest(t, text, err)
 	callPeriod(t, text, err, value.D)
+	for _, c := range places(text) {
+		checkKind(t, c)
+	}
 }
 
 // callCompare wants the error that Check tells of the text.
@@ -169,7 +172,7 @@ func TestP1SpoiltTexts(t *testing.T) {
 
 // If a call went through such texts, it would not end within the time of a test.
 func TestP1LongTextsByTheirLength(t *testing.T) {
-	for _, long := range []string{repeat("1+", 20000000) + "1", repeat("x", 40000000), repeat("(", 40000000)} {
+	for _, long := range []string{repeat("1+", 20000000) + "1", repeat("x", 40000000), repeat("(", 40000000), repeat("1", 40000000)} {
 		for range 50000 {
 			if err, at := Check(long); err != api.ErrLong || at != 0 {
 				t.Fatalf("P1: Check of a long text is %d, %d", err, at)
@@ -194,6 +197,11 @@ func TestP1LongTextsByTheirLength(t *testing.T) {
 			}
 			if b, l, err := Period(long); err != api.ErrLong || b != 0 || l != 0 {
 				t.Fatalf("P1: Period of a long text is %d, %d, %d", b, l, err)
+			}
+			for _, c := range places(long) {
+				if x, y, err := Line(c[0], c[1], c[2]); err != api.ErrArg || x != "" || y != "" {
+					t.Fatalf("P1: Line of a long text is %q, %q, %d", x, y, err)
+				}
 			}
 		}
 	}
@@ -260,6 +268,37 @@ func TestP2ArgumentsAlone(t *testing.T) {
 		again := string([]byte(texts[i]))
 		if got := ask(again); got != first[i] {
 			t.Errorf("P2: %q: %+v, and later %+v", texts[i], first[i], got)
+		}
+	}
+}
+
+func TestP2NumbersAlone(t *testing.T) {
+	type answer struct {
+		x, y string
+		err  api.Errno
+	}
+	askPell := func(d int) answer {
+		x, y, err := Pell(d)
+		return answer{x, y, err}
+	}
+	askLine := func(a string, b string, c string) answer {
+		x, y, err := Line(a, b, c)
+		return answer{x, y, err}
+	}
+	source := rand.New(rand.NewSource(18))
+	lines := [][3]string{{"0", "0", "0"}, {"", "1", "1"}, {"2", "4", "1"}, {"5", "0", "5"}}
+	for range 2000 {
+		lines = append(lines, [3]string{randomNumber(source).String(), randomNumber(source).String(), randomNumber(source).String()})
+	}
+	first := []answer{}
+	for d, c := range lines {
+		first = append(first, askPell(d), askLine(c[0], c[1], c[2]))
+	}
+	for d := len(lines) - 1; d >= 0; d-- {
+		// Texts of the same bytes at another place in memory.
+		a, b, c := string([]byte(lines[d][0])), string([]byte(lines[d][1])), string([]byte(lines[d][2]))
+		if pell, line := askPell(d), askLine(a, b, c); pell != first[2*d] || line != first[2*d+1] {
+			t.Errorf("P2: Pell(%d): %+v, and later %+v; Line(%q, %q, %q): %+v, and later %+v", d, first[2*d], pell, a, b, c, first[2*d+1], line)
 		}
 	}
 }

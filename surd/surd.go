@@ -6,6 +6,8 @@ import (
 	"surd/exact"
 	"surd/expansion"
 	"surd/expression"
+	"surd/line"
+	"surd/whole"
 )
 
 // Check tells whether an expression is one that has a value, and where it is not (P3).
@@ -103,7 +105,40 @@ func Period(text string) (int, int, api.Errno) {
 }
 
 // Pell solves x² - dy² = 1 (P10).
-func Pell(d int) (string, string, api.Errno) { return "", "", api.OK }
+func Pell(d int) (string, string, api.Errno) {
+	if d < 2 || d > api.MaxPell {
+		return "", "", api.ErrArg
+	}
+	root := exact.Root(d)
+	if root.Rational() {
+		return "", "", api.ErrArg
+	}
+	solution := expansion.Pell(d)
+	x, y := solution.Texts()
+	return x, y, api.OK
+}
 
 // Line solves ax + by = c (P11).
-func Line(a string, b string, c string) (string, string, api.Errno) { return "", "", api.OK }
+func Line(a string, b string, c string) (string, string, api.Errno) {
+	if len(a) > api.MaxNumber || len(b) > api.MaxNumber || len(c) > api.MaxNumber {
+		return "", "", api.ErrArg
+	}
+	first, firstFits := whole.FromText(a)
+	second, secondFits := whole.FromText(b)
+	sum, sumFits := whole.FromText(c)
+	if !firstFits || !secondFits || !sumFits {
+		return "", "", api.ErrArg
+	}
+	firstSign := first.Sign()
+	secondSign := second.Sign()
+	if firstSign == 0 && secondSign == 0 {
+		return "", "", api.ErrArg
+	}
+	x, y, found := line.Solve(first, second, sum)
+	if !found {
+		return "", "", api.ErrNone
+	}
+	xText := x.Text()
+	yText := y.Text()
+	return xText, yText, api.OK
+}

@@ -22,6 +22,23 @@ func limbAt(limbs []int64, i int) int64 {
 	return limbs[i]
 }
 
+// limbsOf wants digits alone.
+func limbsOf(digits string) []int64 {
+	limbs := []int64{}
+	for end := len(digits); end > 0; end -= limbDigits {
+		limb := int64(0)
+		for i := end - limbDigits; i < end; i++ {
+			// The upper limb may have fewer digits.
+			if i >= 0 {
+				limb = limb*10 + int64(digits[i]-'0')
+			}
+		}
+		limbs = append(limbs, limb)
+	}
+	n := significant(limbs)
+	return limbs[:n]
+}
+
 func copyLimbs(limbs []int64) []int64 {
 	return append([]int64{}, limbs...)
 }

@@ -23,6 +23,32 @@ func FromInt(n int64) Number {
 	return Number{negative: n < 0, limbs: limbs}
 }
 
+// FromText makes a Number of a whole number's text; false, if the text is none.
+func FromText(text string) (Number, bool) {
+	digits := text
+	negative := len(text) > 0 && text[0] == '-'
+	if negative {
+		digits = text[1:]
+	}
+	if len(digits) == 0 || !allDigits(digits) {
+		return Number{}, false
+	}
+	if digits[0] == '0' && text != "0" {
+		return Number{}, false
+	}
+	limbs := limbsOf(digits)
+	return Number{negative: negative, limbs: limbs}, true
+}
+
+func allDigits(text string) bool {
+	for i := 0; i < len(text); i++ {
+		if text[i] < '0' || text[i] > '9' {
+			return false
+		}
+	}
+	return true
+}
+
 // Text tells the number as a whole number's text.
 func (a Number) Text() string {
 	last := len(a.limbs) - 1

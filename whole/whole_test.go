@@ -193,3 +193,34 @@ func TestDivideNearMultiples(t *testing.T) {
 		}
 	}
 }
+
+func TestFromText(t *testing.T) {
+	for _, a := range samples() {
+		if got, fits := FromText(a.String()); !same(got, a) || !fits {
+			t.Errorf("FromText(%s) = %s, %v", a, got.Text(), fits)
+		}
+	}
+	digits := "1203004000500006000007000000800000009000000001"
+	for end := 1; end <= len(digits); end++ {
+		for _, text := range []string{digits[:end], "-" + digits[:end]} {
+			want, _ := new(big.Int).SetString(text, 10)
+			if got, fits := FromText(text); !same(got, want) || !fits {
+				t.Errorf("FromText(%q) = %s, %v", text, got.Text(), fits)
+			}
+		}
+	}
+}
+
+func TestFromWrongText(t *testing.T) {
+	texts := []string{"", "-", "--", "--1", "-0", "00", "01", "-01", "007", "+1", "+0", " 1", "1 ", "1-", "1-1", "1x", "x", "0x", "0x1", "1_000", "1.0", "1e3", "- 1", "-\x00", "12345678901234567890 ", "/", ":", "1/", "1:", "٣", "1\n", "\xff1"}
+	for c := range 256 {
+		if c < '0' || c > '9' {
+			texts = append(texts, string([]byte{byte(c)}), string([]byte{'1', byte(c)}), string([]byte{'1', byte(c), '1'}))
+		}
+	}
+	for _, text := range texts {
+		if got, fits := FromText(text); !same(got, new(big.Int)) || fits {
+			t.Errorf("FromText(%q) = %s, %v", text, got.Text(), fits)
+		}
+	}
+}
